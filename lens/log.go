@@ -1,0 +1,124 @@
+package lens
+
+import (
+	"strconv"
+	"strings"
+
+	"motu/api"
+)
+
+const (
+	entryNumbers = 4   // the numbers of an entry
+	entryDigits  = 4   // the digits of a number at most
+	checkModulus = 673 // a prime, so that the sum tells when a digit was changed
+	checkLetters = 26
+)
+
+func checkEntries(l []api.LensEntry) api.Errno {
+	if len(l) > api.LensEntries {
+		return api.ErrLong
+	}
+	for _, x := range l {
+		if !isIn(x.Month, 0, 99) || !isIn(x.Well, 0, 99) || !isIn(x.Salt, 0, 9999) || !isIn(x.Depth, 0, 9999) {
+			return api.ErrArg
+		}
+	}
+	return api.OK
+}
+
+func printLog(l []api.LensEntry) string {
+	var w writer
+	for _, x := range l {
+		w.line(x.Month, x.Well, x.Salt, x.Depth)
+	}
+	return w.text + endLine(w.numbers) + "\n"
+}
+
+// writer writes lines, and keeps their numbers for the end line.
+type writer struct {
+	text    string
+	numbers []int
+}
+
+func (w *writer) line(numbers ...int) {
+	words := make([]string, len(numbers))
+	for k, n := range numbers {
+		words[k] = strconv.Itoa(n)
+	}
+	w.text += strings.Join(words, " ") + "\n"
+	w.numbers = append(w.numbers, numbers...)
+}
+
+// endLine returns the last line of a log with some numbers.
+func endLine(numbers []int) string {
+	sum := 0
+	for k, n := range numbers {
+		sum = (sum + (k+1)*n) % checkModulus
+	}
+	return "end " + letter(sum/checkLetters) + letter(sum%checkLetters)
+}
+
+func letter(n int) string { return string(rune('a' + n)) }
+
+// noLog is what the reader of a text that is no log panics with.
+type noLog struct{}
+
+// readLog returns the entries of a text, which may be too many or not as defined, and whether it is of the form of a log.
+func readLog(text string) (l []api.LensEntry, ok bool) {
+	defer func() {
+		// Read must not panic, so this holds whatever stopped the reader.
+		if recover() != nil {
+			l, ok = nil, false
+		}
+	}()
+	r := reader{rest: text}
+	for {
+		line := r.line()
+		if line == endLine(r.numbers) && r.rest == "" {
+			return l, true
+		}
+		l = append(l, r.entry(line))
+	}
+}
+
+// reader reads lines, and keeps their numbers for the end line.
+type reader struct {
+	rest    string
+	numbers []int
+}
+
+func (r *reader) line() string {
+	line, rest, found := strings.Cut(r.rest, "\n")
+	if !found {
+		panic(noLog{})
+	}
+	r.rest = rest
+	return line
+}
+
+func (r *reader) entry(line string) api.LensEntry {
+	words := strings.Split(line, " ")
+	if len(words) != entryNumbers {
+		panic(noLog{})
+	}
+	var n [entryNumbers]int
+	for k, word := range words {
+		n[k] = number(word)
+	}
+	r.numbers = append(r.numbers, n[:]...)
+	return api.LensEntry{Month: n[0], Well: n[1], Salt: n[2], Depth: n[3]}
+}
+
+func number(word string) int {
+	if word == "" || len(word) > entryDigits || len(word) > 1 && word[0] == '0' {
+		panic(noLog{})
+	}
+	n := 0
+	for _, digit := range word {
+		if digit < '0' || digit > '9' {
+			panic(noLog{})
+		}
+		n = 10*n + int(digit-'0')
+	}
+	return n
+}
