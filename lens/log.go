@@ -5,6 +5,7 @@ import (
 	"strings"
 
 	"motu/api"
+	"motu/decimal"
 )
 
 const (
@@ -110,15 +111,9 @@ func (r *reader) entry(line string) api.LensEntry {
 }
 
 func number(word string) int {
-	if word == "" || len(word) > entryDigits || len(word) > 1 && word[0] == '0' {
+	n, ok := decimal.Natural(word, entryDigits)
+	if !ok {
 		panic(noLog{})
-	}
-	n := 0
-	for _, digit := range word {
-		if digit < '0' || digit > '9' {
-			panic(noLog{})
-		}
-		n = 10*n + int(digit-'0')
 	}
 	return n
 }

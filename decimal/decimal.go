@@ -1,0 +1,29 @@
+// Package decimal reads the numbers of logs and books, which layers write in the same way: decimal, and without leading zeros.
+package decimal
+
+import "strings"
+
+// Natural returns the number of a word of at most some digits (no more than 9), without a sign; false if the word is none.
+func Natural(word string, digits int) (int, bool) {
+	if word == "" || len(word) > digits || len(word) > 1 && word[0] == '0' {
+		return 0, false
+	}
+	n := 0
+	for _, digit := range word {
+		if digit < '0' || digit > '9' {
+			return 0, false
+		}
+		n = 10*n + int(digit-'0')
+	}
+	return n, true
+}
+
+// Integer returns the number of such a word, with a - in front if the number is less than 0.
+func Integer(word string, digits int) (int, bool) {
+	size, negative := strings.CutPrefix(word, "-")
+	n, ok := Natural(size, digits)
+	if !negative {
+		return n, ok
+	}
+	return -n, n > 0
+}

@@ -1,0 +1,72 @@
+package decimal_test
+
+import (
+	"strconv"
+	"testing"
+
+	"motu/decimal"
+)
+
+func TestWords(t *testing.T) {
+	for _, x := range []struct {
+		word    string
+		digits  int
+		natural bool
+		integer bool
+		n       int
+	}{
+		{"0", 1, true, true, 0},
+		{"9", 1, true, true, 9},
+		{"10", 2, true, true, 10},
+		{"9999", 4, true, true, 9999},
+		{"999999999", 9, true, true, 999999999},
+		{"-1", 1, false, true, -1},
+		{"-1000", 4, false, true, -1000},
+		{"-999999999", 9, false, true, -999999999},
+		{"", 4, false, false, 0},
+		{"-", 4, false, false, 0},
+		{"-0", 4, false, false, 0},
+		{"-00", 4, false, false, 0},
+		{"--1", 4, false, false, 0},
+		{"+1", 4, false, false, 0},
+		{"-+1", 4, false, false, 0},
+		{"1-", 4, false, false, 0},
+		{"00", 4, false, false, 0},
+		{"01", 4, false, false, 0},
+		{"-01", 4, false, false, 0},
+		{"10000", 4, false, false, 0},
+		{"-10000", 4, false, false, 0},
+		{"1", 0, false, false, 0},
+		{"18446744073709551616", 9, false, false, 0},
+		{" 1", 4, false, false, 0},
+		{"1 ", 4, false, false, 0},
+		{"1/", 4, false, false, 0},
+		{"1:", 4, false, false, 0},
+		{"a", 4, false, false, 0},
+		{"1a", 4, false, false, 0},
+		{"1\x00", 4, false, false, 0},
+		{"\xff", 4, false, false, 0},
+		{"\u0661", 4, false, false, 0},
+	} {
+		n, ok := decimal.Natural(x.word, x.digits)
+		if want := map[bool]int{true: x.n}[x.natural]; n != want || ok != x.natural {
+			t.Errorf("Natural %q: %v %v", x.word, n, ok)
+		}
+		if n, ok := decimal.Integer(x.word, x.digits); n != x.n || ok != x.integer {
+			t.Errorf("Integer %q: %v %v", x.word, n, ok)
+		}
+	}
+}
+
+func TestAllNumbers(t *testing.T) {
+	for n := -1100; n <= 1100; n++ {
+		got, ok := decimal.Integer(strconv.Itoa(n), 4)
+		if got != n || !ok {
+			t.Fatal(n, got, ok)
+		}
+		got, ok = decimal.Natural(strconv.Itoa(n), 3)
+		if ok != (0 <= n && n <= 999) || ok && got != n || !ok && got != 0 {
+			t.Fatal(n, got, ok)
+		}
+	}
+}
