@@ -1,26 +1,27 @@
 package land
 
-import "motu/api"
+import (
+	"motu/api"
+	"motu/bounds"
+)
 
 // nobody stands for a mother who is not known, and for whoever has not adopted anybody.
 const nobody = -1
 
-func isIn(n, low, high int) bool { return low <= n && n <= high }
+func isPerson(b api.LandBook, person int) bool { return bounds.In(person, 0, len(b.People)-1) }
 
-func isPerson(b api.LandBook, person int) bool { return isIn(person, 0, len(b.People)-1) }
+func isEvent(b api.LandBook, event int) bool { return bounds.In(event, 0, len(b.Events)-1) }
 
-func isEvent(b api.LandBook, event int) bool { return isIn(event, 0, len(b.Events)-1) }
-
-func isStrip(strip int) bool { return isIn(strip, 0, api.LandStrips-1) }
+func isStrip(strip int) bool { return bounds.In(strip, 0, api.LandStrips-1) }
 
 func isBook(b api.LandBook) bool {
-	return isIn(len(b.People), 1, api.LandPeople) && isIn(len(b.Events), 1, api.LandEvents) && len(b.Memories) <= api.LandMemories &&
+	return bounds.In(len(b.People), 1, api.LandPeople) && bounds.In(len(b.Events), 1, api.LandEvents) && len(b.Memories) <= api.LandMemories &&
 		arePeople(b) && areEvents(b) && areMemories(b)
 }
 
 func arePeople(b api.LandBook) bool {
 	for person, p := range b.People {
-		if !isIn(p.Mother, nobody, person-1) || !isIn(p.Adopted, nobody, person-1) {
+		if !bounds.In(p.Mother, nobody, person-1) || !bounds.In(p.Adopted, nobody, person-1) {
 			return false
 		}
 	}
@@ -53,7 +54,7 @@ func areYears(b api.LandBook, years []int) bool {
 		return false
 	}
 	for _, year := range years {
-		if !isIn(year, 0, api.LandYears) {
+		if !bounds.In(year, 0, api.LandYears) {
 			return false
 		}
 	}
@@ -62,7 +63,7 @@ func areYears(b api.LandBook, years []int) bool {
 
 func areTrue(memories []api.LandMemory, years []int) bool {
 	for _, m := range memories {
-		if !isIn(years[m.To]-years[m.From], m.Years.Low, m.Years.High) {
+		if !bounds.InSpan(years[m.To]-years[m.From], m.Years) {
 			return false
 		}
 	}

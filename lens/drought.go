@@ -4,6 +4,7 @@ import (
 	"iter"
 
 	"motu/api"
+	"motu/bounds"
 )
 
 func isDrought(i api.LensIslet, dry []bool) bool {
@@ -38,18 +39,14 @@ func droughts(i api.LensIslet) iter.Seq[[]bool] {
 	}
 }
 
-func low(s api.Span) int { return s.Low }
-
-func high(s api.Span) int { return s.High }
-
 // scarcest returns the truth of a drought in which water is scarcest at the end of every month. There is one, as more water in a month never makes less later.
 func scarcest(i api.LensIslet, dry []bool) api.LensTruth {
-	return extreme(i, dry, low, high)
+	return extreme(i, dry, bounds.Low, bounds.High)
 }
 
 // richest returns the truth of a drought in which there is most water at the end of every month.
 func richest(i api.LensIslet, dry []bool) api.LensTruth {
-	return extreme(i, dry, high, low)
+	return extreme(i, dry, bounds.High, bounds.Low)
 }
 
 func extreme(i api.LensIslet, dry []bool, comes, goes func(api.Span) int) api.LensTruth {

@@ -1,27 +1,22 @@
 package lens
 
-import "motu/api"
+import (
+	"motu/api"
+	"motu/bounds"
+)
 
 // perMille is the greatest share of a whole that soaks in or leaks away.
 const perMille = 1000
 
-func isIn(n, low, high int) bool { return low <= n && n <= high }
-
-func isInSpan(n int, s api.Span) bool { return isIn(n, s.Low, s.High) }
-
-func isSpan(s api.Span, most int) bool {
-	return 0 <= s.Low && s.Low <= s.High && s.High <= most
-}
-
-func areTanks(tanks int) bool { return isIn(tanks, 0, api.LensTanks) }
+func areTanks(tanks int) bool { return bounds.In(tanks, 0, api.LensTanks) }
 
 func isIslet(i api.LensIslet) bool {
-	return isIn(i.Cap, 1, api.LensWater) && isSpan(i.Start, i.Cap) &&
-		isIn(i.Roof, 0, api.LensRoof) && isIn(i.Sand, 0, api.LensSand) &&
-		isSpan(i.Soak, perMille) && isSpan(i.Leak, perMille) &&
-		isIn(i.Pump, 0, api.LensWater) && isIn(i.Size, 0, api.LensWater) && isIn(i.Keep, 0, i.Cap) &&
+	return bounds.In(i.Cap, 1, api.LensWater) && bounds.IsSpan(i.Start, i.Cap) &&
+		bounds.In(i.Roof, 0, api.LensRoof) && bounds.In(i.Sand, 0, api.LensSand) &&
+		bounds.IsSpan(i.Soak, perMille) && bounds.IsSpan(i.Leak, perMille) &&
+		bounds.In(i.Pump, 0, api.LensWater) && bounds.In(i.Size, 0, api.LensWater) && bounds.In(i.Keep, 0, i.Cap) &&
 		areWells(i.Wells, i.Cap) && areMonths(i.Months) &&
-		isIn(i.Most, 0, len(i.Months)) && isIn(i.Row, 0, len(i.Months))
+		bounds.In(i.Most, 0, len(i.Months)) && bounds.In(i.Row, 0, len(i.Months))
 }
 
 func areWells(wells []int, most int) bool {
@@ -29,7 +24,7 @@ func areWells(wells []int, most int) bool {
 		return false
 	}
 	for _, w := range wells {
-		if !isIn(w, 0, most) {
+		if !bounds.In(w, 0, most) {
 			return false
 		}
 	}
@@ -37,7 +32,7 @@ func areWells(wells []int, most int) bool {
 }
 
 func areMonths(months []api.LensMonth) bool {
-	if !isIn(len(months), 1, api.LensMonths) {
+	if !bounds.In(len(months), 1, api.LensMonths) {
 		return false
 	}
 	for _, m := range months {
@@ -49,12 +44,12 @@ func areMonths(months []api.LensMonth) bool {
 }
 
 func isMonth(m api.LensMonth) bool {
-	return isSpan(m.Wet, api.LensRain) && isSpan(m.Dry, api.LensRain) && isSpan(m.Need, api.LensWater) &&
+	return bounds.IsSpan(m.Wet, api.LensRain) && bounds.IsSpan(m.Dry, api.LensRain) && bounds.IsSpan(m.Need, api.LensWater) &&
 		m.Dry.Low <= m.Wet.Low && m.Dry.High <= m.Wet.High
 }
 
 func isTruth(i api.LensIslet, t api.LensTruth) bool {
-	if !isInSpan(t.Start, i.Start) || !isInSpan(t.Soak, i.Soak) || !isInSpan(t.Leak, i.Leak) {
+	if !bounds.InSpan(t.Start, i.Start) || !bounds.InSpan(t.Soak, i.Soak) || !bounds.InSpan(t.Leak, i.Leak) {
 		return false
 	}
 	months := len(i.Months)
@@ -62,7 +57,7 @@ func isTruth(i api.LensIslet, t api.LensTruth) bool {
 		return false
 	}
 	for m, month := range i.Months {
-		if !isInSpan(t.Rains[m], rainOf(month, t.Dry[m])) || !isInSpan(t.Needs[m], month.Need) {
+		if !bounds.InSpan(t.Rains[m], rainOf(month, t.Dry[m])) || !bounds.InSpan(t.Needs[m], month.Need) {
 			return false
 		}
 	}

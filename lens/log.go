@@ -5,6 +5,7 @@ import (
 	"strings"
 
 	"motu/api"
+	"motu/bounds"
 	"motu/decimal"
 )
 
@@ -20,7 +21,7 @@ func checkEntries(l []api.LensEntry) api.Errno {
 		return api.ErrLong
 	}
 	for _, x := range l {
-		if !isIn(x.Month, 0, 99) || !isIn(x.Well, 0, 99) || !isIn(x.Salt, 0, 9999) || !isIn(x.Depth, 0, 9999) {
+		if !bounds.In(x.Month, 0, 99) || !bounds.In(x.Well, 0, 99) || !bounds.In(x.Salt, 0, 9999) || !bounds.In(x.Depth, 0, 9999) {
 			return api.ErrArg
 		}
 	}

@@ -1,0 +1,44 @@
+package bounds_test
+
+import (
+	"math"
+	"testing"
+
+	"motu/api"
+	"motu/bounds"
+)
+
+func TestIn(t *testing.T) {
+	for _, x := range []struct {
+		n, low, high int
+		want         bool
+	}{
+		{3, 3, 5, true}, {4, 3, 5, true}, {5, 3, 5, true}, {2, 3, 5, false}, {6, 3, 5, false}, {3, 3, 3, true}, {4, 5, 3, false},
+		{-1, -1, 0, true}, {-2, -1, 0, false}, {math.MinInt, 0, 9, false}, {math.MaxInt, 0, 9, false}, {math.MaxInt, math.MinInt, math.MaxInt, true},
+	} {
+		if is := bounds.In(x.n, x.low, x.high); is != x.want {
+			t.Error(x, is)
+		}
+		if is := bounds.InSpan(x.n, api.Span{Low: x.low, High: x.high}); is != x.want {
+			t.Error("span", x, is)
+		}
+	}
+}
+
+func TestSpans(t *testing.T) {
+	for _, x := range []struct {
+		low, high, most int
+		want            bool
+	}{
+		{0, 0, 0, true}, {0, 9, 9, true}, {9, 9, 9, true}, {2, 5, 9, true}, {-1, 5, 9, false}, {-2, -1, 9, false}, {5, 4, 9, false},
+		{0, 10, 9, false}, {10, 10, 9, false}, {0, 0, -1, false}, {math.MinInt, math.MaxInt, 9, false}, {math.MaxInt, math.MinInt, 9, false},
+	} {
+		s := api.Span{Low: x.low, High: x.high}
+		if is := bounds.IsSpan(s, x.most); is != x.want {
+			t.Error(x, is)
+		}
+		if bounds.Low(s) != x.low || bounds.High(s) != x.high {
+			t.Error(s)
+		}
+	}
+}
