@@ -1,4 +1,4 @@
-// Package bounds tells whether numbers and spans lie where they may, which layers ask of their arguments in the same way.
+// Package bounds tells whether numbers, lists of them, and spans lie where they may, which layers ask of their arguments in the same way.
 package bounds
 
 import "motu/api"
@@ -19,3 +19,15 @@ func Low(s api.Span) int { return s.Low }
 
 // High returns the upper end of a span.
 func High(s api.Span) int { return s.High }
+
+// AreNumbers reports whether a list is strictly increasing numbers of some things, which are numbered from 0 on.
+func AreNumbers(list []int, things int) bool {
+	least := 0
+	for _, n := range list {
+		if !In(n, least, things-1) {
+			return false
+		}
+		least = n + 1
+	}
+	return true
+}

@@ -42,3 +42,19 @@ func TestSpans(t *testing.T) {
 		}
 	}
 }
+
+func TestNumbers(t *testing.T) {
+	for _, x := range []struct {
+		list   []int
+		things int
+		want   bool
+	}{
+		{nil, 0, true}, {[]int{}, 3, true}, {nil, -1, true}, {[]int{0}, 1, true}, {[]int{2}, 3, true}, {[]int{0, 1, 2}, 3, true}, {[]int{0, 2}, 3, true},
+		{[]int{0}, 0, false}, {[]int{3}, 3, false}, {[]int{-1}, 3, false}, {[]int{1, 1}, 3, false}, {[]int{1, 0}, 3, false}, {[]int{0, 1, 2, 3}, 3, false},
+		{[]int{0, 2, 1}, 3, false}, {[]int{-1, 0}, 3, false}, {[]int{math.MinInt}, 3, false}, {[]int{math.MaxInt}, 3, false}, {[]int{0, math.MaxInt}, 3, false},
+	} {
+		if is := bounds.AreNumbers(x.list, x.things); is != x.want {
+			t.Error(x, is)
+		}
+	}
+}

@@ -1,6 +1,7 @@
 package reef
 
 import (
+	"motu/amount"
 	"motu/api"
 	"motu/bounds"
 )
@@ -23,7 +24,7 @@ func isReef(r api.Reef) bool {
 // isPlace reports whether a place is as defined, but for the place to which its fish drift.
 func isPlace(x api.ReefPlace) bool {
 	return areFish(x.Count) && areFish(x.Room) && areFish(x.Goal) && bounds.In(x.Worth, 0, api.ReefWorth) &&
-		bounds.IsSpan(x.Grow, api.ReefRate) && bounds.In(x.Drift, 0, whole) &&
+		bounds.IsSpan(x.Grow, api.ReefRate) && bounds.In(x.Drift, 0, amount.Whole) &&
 		bounds.IsSpan(x.Open, api.ReefFish) && bounds.IsSpan(x.Shut, api.ReefFish) &&
 		x.Shut.Low <= x.Open.Low && x.Shut.High <= x.Open.High
 }

@@ -3,25 +3,12 @@ package reef
 import (
 	"slices"
 
+	"motu/amount"
 	"motu/api"
 )
 
-// whole is what rates are parts of.
-const whole = 1000
-
-// part returns a part of some fish, rounded down. The product may need more bits than an int has everywhere.
-func part(fish, rate int) int { return int(int64(fish) * int64(rate) / whole) }
-
 // mostThere returns how many fish there are at most where divers count some.
-func mostThere(count, miss int) int { return count + part(count, miss) }
-
-func sum(fish ...int) int {
-	all := 0
-	for _, n := range fish {
-		all += n
-	}
-	return all
-}
+func mostThere(count, miss int) int { return count + amount.Part(count, miss) }
 
 // shoals is how many fish there are in each place; 0 where a reef has no place.
 type shoals [api.ReefPlaces]int
@@ -39,13 +26,13 @@ type followed struct {
 func play(r api.Reef, t api.ReefTruth) ([][]int, api.ReefLedger) {
 	f := followed{Reef: r}
 	copy(f.fish[:], t.Starts)
-	f.ledger.Start = sum(f.fish[:]...)
+	f.ledger.Start = amount.Sum(f.fish[:]...)
 	ends := make([][]int, f.Seasons)
 	for season := range f.Seasons {
 		f.pass(t.Grows[season], t.Takes[season])
 		ends[season] = slices.Clone(f.fish[:len(f.Places)])
 	}
-	f.ledger.Left = sum(f.fish[:]...)
+	f.ledger.Left = amount.Sum(f.fish[:]...)
 	return ends, f.ledger
 }
 
@@ -61,7 +48,7 @@ func (f *followed) pass(grows, takes []int) {
 func (f *followed) grow() {
 	for place, x := range f.Places {
 		there := f.fish[place]
-		grown := min(part(there, f.grows[place]), max(0, x.Room-there))
+		grown := min(amount.Part(there, f.grows[place]), max(0, x.Room-there))
 		f.fish[place] += grown
 		f.ledger.Grown += grown
 	}
@@ -71,7 +58,7 @@ func (f *followed) drift() {
 	// Fish of all places leave at once: those that come to a place do not drift on in the same season.
 	before := f.fish
 	for place, x := range f.Places {
-		away := part(before[place], x.Drift)
+		away := amount.Part(before[place], x.Drift)
 		f.fish[place] -= away
 		if x.Into == outside {
 			f.ledger.Gone += away
