@@ -4,6 +4,7 @@ import (
 	"motu/amount"
 	"motu/api"
 	"motu/bounds"
+	"motu/set"
 )
 
 func isWeb(w api.BaneWeb) bool {
@@ -28,12 +29,12 @@ func areBites(bites []api.BaneBite, kind int) bool {
 	if len(bites) > api.BaneBites {
 		return false
 	}
-	var eaten set
+	var eaten set.Set
 	for _, bite := range bites {
-		if !bounds.In(bite.Prey, 0, kind-1) || eaten.has(bite.Prey) || !bounds.IsSpan(bite.Share, amount.Whole) {
+		if !bounds.In(bite.Prey, 0, kind-1) || eaten.Has(bite.Prey) || !bounds.IsSpan(bite.Share, amount.Whole) {
 			return false
 		}
-		eaten = eaten.with(bite.Prey)
+		eaten = eaten.With(bite.Prey)
 	}
 	return true
 }

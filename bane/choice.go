@@ -3,50 +3,27 @@ package bane
 import (
 	"cmp"
 	"iter"
-	"math/bits"
 	"slices"
 
 	"motu/amount"
+	"motu/set"
 )
-
-// set is numbers of kinds of fish, or of trips, as bits.
-type set int
-
-func setOf(numbers []int) set {
-	var s set
-	for _, n := range numbers {
-		s = s.with(n)
-	}
-	return s
-}
-
-func (s set) with(n int) set { return s | 1<<n }
-
-func (s set) has(n int) bool { return s>>n&1 == 1 }
-
-func (s set) numbers() []int {
-	var list []int
-	for n := range bits.Len(uint(s)) {
-		if s.has(n) {
-			list = append(list, n)
-		}
-	}
-	return list
-}
 
 // choice is a set of tests or guards, and what they cost together.
 type choice struct {
-	set
+	set.Set
 	cost int
 }
 
-func choose(s set, costs []int) choice {
+func choose(s set.Set, costs []int) choice {
 	var chosen []int
-	for _, n := range s.numbers() {
+	for n := range s.All() {
 		chosen = append(chosen, costs[n])
 	}
-	return choice{set: s, cost: amount.Sum(chosen...)}
+	return choice{Set: s, cost: amount.Sum(chosen...)}
 }
+
+func (c choice) numbers() []int { return slices.Collect(c.All()) }
 
 func (c choice) isBetter(other choice) bool {
 	mine, others := c.numbers(), other.numbers()
@@ -54,10 +31,10 @@ func (c choice) isBetter(other choice) bool {
 }
 
 // cheapest returns the best set of those that suffice, and whether there is one.
-func cheapest(costs []int, suffices func(set) bool) (choice, bool) {
+func cheapest(costs []int, suffices func(set.Set) bool) (choice, bool) {
 	return best(func(yield func(choice) bool) {
 		for number := range 1 << len(costs) {
-			if s := set(number); suffices(s) && !yield(choose(s, costs)) {
+			if s := set.Set(number); suffices(s) && !yield(choose(s, costs)) {
 				return
 			}
 		}

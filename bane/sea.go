@@ -5,6 +5,8 @@ import (
 	"slices"
 
 	"motu/api"
+	"motu/queue"
+	"motu/set"
 )
 
 // never stands for the day of an islet to which beetles do not come.
@@ -13,14 +15,14 @@ const never = -1
 // watched is a sea with guards.
 type watched struct {
 	api.BaneSea
-	shut set // the trips on which no beetle goes
+	shut set.Set // the trips on which no beetle goes
 }
 
 // carrying returns the sea with trips that carry beetles or not. One that does not is as good as guarded.
 func (w watched) carrying(carries []bool) watched {
 	for trip, does := range carries {
 		if !does {
-			w.shut = w.shut.with(trip)
+			w.shut = w.shut.With(trip)
 		}
 	}
 	return w
@@ -39,7 +41,7 @@ func home() spot { return spot{islet: -1} }
 func (w watched) open(from spot) iter.Seq[int] {
 	return func(yield func(int) bool) {
 		for trip := range w.Trips {
-			if !w.shut.has(trip) && w.canGo(from, trip) && !yield(trip) {
+			if !w.shut.Has(trip) && w.canGo(from, trip) && !yield(trip) {
 				return
 			}
 		}
@@ -57,10 +59,10 @@ func (w watched) canGo(from spot, trip int) bool {
 // search returns the first path to each spot that is met until a goal is. Shorter paths are met before longer ones. If no trip leads to the goal, all spots are met.
 func (w watched) search(goal spot) map[spot][]int {
 	paths := map[spot][]int{}
-	var waiting queue[spot]
-	waiting.add(home())
+	var waiting queue.Queue[spot]
+	waiting.Add(home())
 search:
-	for from := range waiting.all() {
+	for from := range waiting.All() {
 		for trip := range w.open(from) {
 			to := spot{islet: w.Trips[trip].To, day: w.Trips[trip].Day}
 			if _, met := paths[to]; met {
@@ -70,7 +72,7 @@ search:
 			if to == goal {
 				break search
 			}
-			waiting.add(to)
+			waiting.Add(to)
 		}
 	}
 	return paths
@@ -111,7 +113,7 @@ func bestGuards(s api.BaneSea) (choice, bool) {
 	for _, trip := range s.Trips {
 		costs = append(costs, trip.Cost)
 	}
-	return cheapest(costs, func(guards set) bool { return watched{BaneSea: s, shut: guards}.keeps() })
+	return cheapest(costs, func(guards set.Set) bool { return watched{BaneSea: s, shut: guards}.keeps() })
 }
 
 // leastWait returns the least wait with which the clean islets are kept without any guards, and whether there is one.

@@ -6,12 +6,13 @@ import (
 	"motu/amount"
 	"motu/api"
 	"motu/bounds"
+	"motu/set"
 )
 
 // looked is a web that is looked at, with the kinds of fish that are tested.
 type looked struct {
 	api.BaneWeb
-	tests set
+	tests set.Set
 }
 
 // follow returns the level of each kind in truth; of a kind that is tested, no more than its test lets pass.
@@ -23,7 +24,7 @@ func (l looked) follow(t api.BaneTruth) []int {
 			amounts = append(amounts, amount.Part(levels[bite.Prey], t.Shares[kind][k]))
 		}
 		levels[kind] = amount.Sum(amounts...)
-		if l.tests.has(kind) {
+		if l.tests.Has(kind) {
 			levels[kind] = min(levels[kind], fish.Pass)
 		}
 	}
@@ -95,5 +96,5 @@ func bestTests(w api.BaneWeb, menu []int) (choice, bool) {
 	for _, fish := range w.Fish {
 		costs = append(costs, fish.Cost)
 	}
-	return cheapest(costs, func(tests set) bool { return looked{BaneWeb: w, tests: tests}.areSafe(menu) })
+	return cheapest(costs, func(tests set.Set) bool { return looked{BaneWeb: w, tests: tests}.areSafe(menu) })
 }

@@ -1,7 +1,10 @@
-// Package decimal reads the numbers of logs and books, which layers write in the same way: decimal, and without leading zeros.
+// Package decimal reads the numbers of logs and books, which layers write in the same way: decimal, and without leading zeros, but for those of a CHECK.
 package decimal
 
-import "strings"
+import (
+	"strconv"
+	"strings"
+)
 
 // Natural returns the number of a word of at most some digits (no more than 9), without a sign; false if the word is none.
 func Natural(word string, digits int) (int, bool) {
@@ -26,4 +29,10 @@ func Integer(word string, digits int) (int, bool) {
 		return n, ok
 	}
 	return -n, n > 0
+}
+
+// Padded returns the word of a number from 0 on, with zeros in front of it where it has less than some digits.
+func Padded(n, digits int) string {
+	word := strconv.Itoa(n)
+	return strings.Repeat("0", max(0, digits-len(word))) + word
 }

@@ -70,3 +70,14 @@ func TestAllNumbers(t *testing.T) {
 		}
 	}
 }
+
+func TestPadded(t *testing.T) {
+	for _, x := range []struct {
+		n, digits int
+		want      string
+	}{{0, 2, "00"}, {7, 2, "07"}, {42, 2, "42"}, {7, 3, "007"}, {42, 3, "042"}, {498, 3, "498"}, {498, 2, "498"}, {0, 1, "0"}, {0, 0, "0"}} {
+		if s := decimal.Padded(x.n, x.digits); s != x.want {
+			t.Error(x, s)
+		}
+	}
+}

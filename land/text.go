@@ -2,16 +2,17 @@ package land
 
 import (
 	"strconv"
-	"strings"
 
 	"motu/api"
 	"motu/decimal"
+	"motu/lines"
 )
 
 const (
 	noPerson     = "-" // what stands for nobody
 	mostDigits   = 4   // the digits of a number at most
 	checkModulus = 97
+	checkDigits  = 2
 	checkWeights = 9 // less than the modulus by so much that the sum tells when a digit was changed
 )
 
@@ -38,24 +39,23 @@ func relative(person int) string {
 	return strconv.Itoa(person)
 }
 
-// checkOf returns the CHECK of the lines before the last one.
-func checkOf(lines string) string {
+// checkOf returns the CHECK of the text before the last line.
+func checkOf(text string) string {
 	sum, count := 0, 0
-	for _, letter := range lines {
+	for _, letter := range text {
 		if '0' <= letter && letter <= '9' {
 			sum += int(letter-'0') * (1 + count%checkWeights)
 			count++
 		}
 	}
-	sum %= checkModulus
-	return strconv.Itoa(sum/10) + strconv.Itoa(sum%10)
+	return decimal.Padded(sum%checkModulus, checkDigits)
 }
 
 type writer struct {
 	text string
 }
 
-func (w *writer) line(words ...string) { w.text += strings.Join(words, " ") + "\n" }
+func (w *writer) line(words ...string) { w.text += lines.Of(words...) }
 
 func (w *writer) numbers(word string, numbers ...int) {
 	words := []string{word}
@@ -109,8 +109,7 @@ func (r *reader) lines(word string, count int) {
 
 // line reads a line that must begin with a word.
 func (r *reader) line(word string) {
-	line, rest, found := strings.Cut(r.rest, "\n")
-	words := strings.Split(line, " ")
+	words, rest, found := lines.Cut(r.rest)
 	if !found || words[0] != word {
 		panic(noBook{})
 	}

@@ -2,11 +2,11 @@ package lens
 
 import (
 	"strconv"
-	"strings"
 
 	"motu/api"
 	"motu/bounds"
 	"motu/decimal"
+	"motu/lines"
 )
 
 const (
@@ -33,7 +33,7 @@ func printLog(l []api.LensEntry) string {
 	for _, x := range l {
 		w.line(x.Month, x.Well, x.Salt, x.Depth)
 	}
-	return w.text + endLine(w.numbers) + "\n"
+	return w.text + endLine(w.numbers)
 }
 
 // writer writes lines, and keeps their numbers for the end line.
@@ -47,7 +47,7 @@ func (w *writer) line(numbers ...int) {
 	for k, n := range numbers {
 		words[k] = strconv.Itoa(n)
 	}
-	w.text += strings.Join(words, " ") + "\n"
+	w.text += lines.Of(words...)
 	w.numbers = append(w.numbers, numbers...)
 }
 
@@ -57,7 +57,7 @@ func endLine(numbers []int) string {
 	for k, n := range numbers {
 		sum = (sum + (k+1)*n) % checkModulus
 	}
-	return "end " + letter(sum/checkLetters) + letter(sum%checkLetters)
+	return lines.Of("end", letter(sum/checkLetters)+letter(sum%checkLetters))
 }
 
 func letter(n int) string { return string(rune('a' + n)) }
@@ -74,13 +74,10 @@ func readLog(text string) (l []api.LensEntry, ok bool) {
 		}
 	}()
 	r := reader{rest: text}
-	for {
-		line := r.line()
-		if line == endLine(r.numbers) && r.rest == "" {
-			return l, true
-		}
-		l = append(l, r.entry(line))
+	for r.rest != endLine(r.numbers) {
+		l = append(l, r.entry())
 	}
+	return l, true
 }
 
 // reader reads lines, and keeps their numbers for the end line.
@@ -89,20 +86,12 @@ type reader struct {
 	numbers []int
 }
 
-func (r *reader) line() string {
-	line, rest, found := strings.Cut(r.rest, "\n")
-	if !found {
+func (r *reader) entry() api.LensEntry {
+	words, rest, found := lines.Cut(r.rest)
+	if !found || len(words) != entryNumbers {
 		panic(noLog{})
 	}
 	r.rest = rest
-	return line
-}
-
-func (r *reader) entry(line string) api.LensEntry {
-	words := strings.Split(line, " ")
-	if len(words) != entryNumbers {
-		panic(noLog{})
-	}
 	var n [entryNumbers]int
 	for k, word := range words {
 		n[k] = number(word)
