@@ -5,6 +5,8 @@ import (
 	"slices"
 
 	"motu/api"
+	"motu/best"
+	"motu/lists"
 	"motu/queue"
 	"motu/set"
 )
@@ -108,12 +110,9 @@ func (w watched) keeps() bool {
 	return !slices.ContainsFunc(w.Clean, func(islet int) bool { return days[islet] != never })
 }
 
-func bestGuards(s api.BaneSea) (choice, bool) {
-	var costs []int
-	for _, trip := range s.Trips {
-		costs = append(costs, trip.Cost)
-	}
-	return cheapest(costs, func(guards set.Set) bool { return watched{BaneSea: s, shut: guards}.keeps() })
+func bestGuards(s api.BaneSea) ([]int, int, api.Errno) {
+	costs := lists.Each(s.Trips, func(trip api.BaneTrip) int { return trip.Cost })
+	return best.Cheapest(costs, func(guards set.Set) bool { return watched{BaneSea: s, shut: guards}.keeps() })
 }
 
 // leastWait returns the least wait with which the clean islets are kept without any guards, and whether there is one.

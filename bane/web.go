@@ -5,7 +5,9 @@ import (
 
 	"motu/amount"
 	"motu/api"
+	"motu/best"
 	"motu/bounds"
+	"motu/lists"
 	"motu/set"
 )
 
@@ -78,7 +80,7 @@ func (l looked) worst(kind int) (chain []int) {
 func (l looked) worstPrey(chain, greatest []int) int {
 	bites := l.Fish[chain[len(chain)-1]].Bites
 	comes := func(bite api.BaneBite) int { return amount.Part(greatest[bite.Prey], bite.Share.High) }
-	worst, found := best(slices.Values(bites), func(a, b api.BaneBite) bool { return comes(a) > comes(b) })
+	worst, found := best.Of(slices.Values(bites), func(a, b api.BaneBite) bool { return comes(a) > comes(b) })
 	if !found {
 		panic(ended(chain))
 	}
@@ -91,10 +93,7 @@ func (l looked) areSafe(menu []int) bool {
 	return !slices.ContainsFunc(menu, func(kind int) bool { return greatest[kind] > l.Limit })
 }
 
-func bestTests(w api.BaneWeb, menu []int) (choice, bool) {
-	var costs []int
-	for _, fish := range w.Fish {
-		costs = append(costs, fish.Cost)
-	}
-	return cheapest(costs, func(tests set.Set) bool { return looked{BaneWeb: w, tests: tests}.areSafe(menu) })
+func bestTests(w api.BaneWeb, menu []int) ([]int, int, api.Errno) {
+	costs := lists.Each(w.Fish, func(fish api.BaneFish) int { return fish.Cost })
+	return best.Cheapest(costs, func(tests set.Set) bool { return looked{BaneWeb: w, tests: tests}.areSafe(menu) })
 }

@@ -6,12 +6,45 @@ import "motu/api"
 // In reports whether a number is one from low to high.
 func In(n, low, high int) bool { return low <= n && n <= high }
 
+// AllIn reports whether all numbers of a list are ones from low to high.
+func AllIn(list []int, low, high int) bool {
+	for _, n := range list {
+		if !In(n, low, high) {
+			return false
+		}
+	}
+	return true
+}
+
 // InSpan reports whether a number is one of a span.
 func InSpan(n int, s api.Span) bool { return In(n, s.Low, s.High) }
+
+// InSpans reports whether there is a number for each span, and lies in it.
+func InSpans(numbers []int, spans []api.Span) bool {
+	if len(numbers) != len(spans) {
+		return false
+	}
+	for k, n := range numbers {
+		if !InSpan(n, spans[k]) {
+			return false
+		}
+	}
+	return true
+}
 
 // IsSpan reports whether a span has a number, and none below 0 or above most.
 func IsSpan(s api.Span, most int) bool {
 	return 0 <= s.Low && s.Low <= s.High && s.High <= most
+}
+
+// AreSpans reports whether all spans of a list have a number, and none below 0 or above most.
+func AreSpans(spans []api.Span, most int) bool {
+	for _, s := range spans {
+		if !IsSpan(s, most) {
+			return false
+		}
+	}
+	return true
 }
 
 // Low returns the lower end of a span.

@@ -58,3 +58,51 @@ func TestNumbers(t *testing.T) {
 		}
 	}
 }
+
+func TestAllIn(t *testing.T) {
+	for _, x := range []struct {
+		list []int
+		want bool
+	}{
+		{nil, true}, {[]int{}, true}, {[]int{3}, true}, {[]int{5, 3, 4, 3}, true},
+		{[]int{2}, false}, {[]int{6}, false}, {[]int{2, 4}, false}, {[]int{4, 4, 6}, false}, {[]int{math.MinInt, 4}, false}, {[]int{4, math.MaxInt}, false},
+	} {
+		if is := bounds.AllIn(x.list, 3, 5); is != x.want {
+			t.Error(x, is)
+		}
+	}
+}
+
+func TestInSpans(t *testing.T) {
+	spans := []api.Span{{Low: 3, High: 5}, {Low: -1, High: -1}}
+	for _, x := range []struct {
+		numbers []int
+		want    bool
+	}{
+		{[]int{3, -1}, true}, {[]int{5, -1}, true},
+		{[]int{2, -1}, false}, {[]int{6, -1}, false}, {[]int{4, 0}, false}, {[]int{4, -2}, false}, {[]int{-1, 3}, false},
+		{nil, false}, {[]int{4}, false}, {[]int{4, -1, 0}, false},
+	} {
+		if is := bounds.InSpans(x.numbers, spans); is != x.want {
+			t.Error(x, is)
+		}
+	}
+	if !bounds.InSpans(nil, []api.Span{}) || bounds.InSpans([]int{0}, nil) {
+		t.Error("no spans")
+	}
+}
+
+func TestAreSpans(t *testing.T) {
+	good, also, tall, none := api.Span{Low: 0, High: 9}, api.Span{Low: 4, High: 4}, api.Span{Low: 4, High: 10}, api.Span{Low: 5, High: 4}
+	for _, x := range []struct {
+		spans []api.Span
+		want  bool
+	}{
+		{nil, true}, {[]api.Span{good}, true}, {[]api.Span{good, also, good}, true},
+		{[]api.Span{tall}, false}, {[]api.Span{none, good}, false}, {[]api.Span{good, also, tall}, false},
+	} {
+		if is := bounds.AreSpans(x.spans, 9); is != x.want {
+			t.Error(x, is)
+		}
+	}
+}

@@ -13,7 +13,7 @@ func isSea(s api.CanoeSea) bool {
 	return bounds.In(s.Cells, 1, api.CanoeCells) && bounds.In(s.Start, 1, allCells(s)) &&
 		areCourses(s) && areStars(s) &&
 		len(s.Boats) <= api.CanoeBoats && areCells(s, s.Boats) &&
-		len(s.Roads) == s.Cells && areSets(s.Roads, 0, allCells(s))
+		len(s.Roads) == s.Cells && bounds.AllIn(s.Roads, 0, allCells(s))
 }
 
 func areCourses(s api.CanoeSea) bool {
@@ -21,7 +21,7 @@ func areCourses(s api.CanoeSea) bool {
 		return false
 	}
 	for _, course := range s.Courses {
-		if len(course) != s.Cells || !areSets(course, 1, allCells(s)) {
+		if len(course) != s.Cells || !bounds.AllIn(course, 1, allCells(s)) {
 			return false
 		}
 	}
@@ -29,32 +29,15 @@ func areCourses(s api.CanoeSea) bool {
 }
 
 func areStars(s api.CanoeSea) bool {
-	return len(s.Stars) <= api.CanoeStars && areSets(s.Stars, 1, allCells(s))
+	return len(s.Stars) <= api.CanoeStars && bounds.AllIn(s.Stars, 1, allCells(s))
 }
 
 // allCells returns the set of all cells of a sea, which is the greatest one.
 func allCells(s api.CanoeSea) int { return 1<<s.Cells - 1 }
 
-// areSets reports whether sets lie between two of them, as numbers. Only the empty set is less than 1.
-func areSets(sets []int, low, high int) bool {
-	for _, cells := range sets {
-		if !bounds.In(cells, low, high) {
-			return false
-		}
-	}
-	return true
-}
-
 func isCell(s api.CanoeSea, cell int) bool { return bounds.In(cell, 0, s.Cells-1) }
 
-func areCells(s api.CanoeSea, list []int) bool {
-	for _, cell := range list {
-		if !isCell(s, cell) {
-			return false
-		}
-	}
-	return true
-}
+func areCells(s api.CanoeSea, list []int) bool { return bounds.AllIn(list, 0, s.Cells-1) }
 
 func isCourse(s api.CanoeSea, course int) bool { return bounds.In(course, 0, len(s.Courses)-1) }
 

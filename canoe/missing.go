@@ -5,6 +5,7 @@ import (
 	"slices"
 
 	"motu/api"
+	"motu/first"
 	"motu/queue"
 	"motu/set"
 )
@@ -109,7 +110,7 @@ func (m missing) planTo(s state, met map[state]origin) [][]int {
 
 // escape returns the first path that escapes a plan, and whether there is one.
 func (m missing) escape(plan [][]int) ([]int, bool) {
-	return first(len(plan)+1, func(path []int) iter.Seq[int] {
+	return first.List(len(plan)+1, func(path []int) iter.Seq[int] {
 		hours := len(path)
 		if hours == 0 {
 			return m.end().All()

@@ -50,15 +50,7 @@ func areMemories(b api.LandBook) bool {
 }
 
 func areYears(b api.LandBook, years []int) bool {
-	if len(years) != len(b.Events) {
-		return false
-	}
-	for _, year := range years {
-		if !bounds.In(year, 0, api.LandYears) {
-			return false
-		}
-	}
-	return true
+	return len(years) == len(b.Events) && bounds.AllIn(years, 0, api.LandYears)
 }
 
 func areTrue(memories []api.LandMemory, years []int) bool {

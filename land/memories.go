@@ -5,6 +5,7 @@ import (
 	"math/bits"
 
 	"motu/api"
+	"motu/first"
 )
 
 // set is numbers of memories, as bits. The first memory is the highest bit, so that of two sets of one size the greater one comes first in lexicographic order.
@@ -44,17 +45,6 @@ func setsOf(count int) iter.Seq[set] {
 	}
 }
 
-// first returns the first one of all that holds, and whether there is one.
-func first[T any](all iter.Seq[T], holds func(T) bool) (T, bool) {
-	for x := range all {
-		if holds(x) {
-			return x, true
-		}
-	}
-	var none T
-	return none, false
-}
-
 // looked is a book that is looked at, with the tables that were found for sets of its memories.
 type looked struct {
 	api.LandBook
@@ -89,11 +79,11 @@ func (l looked) table(s set) table {
 func (l looked) agree(s set) bool { return l.table(s).agrees() }
 
 func (l looked) clash() (set, bool) {
-	return first(setsOf(len(l.Memories)), func(s set) bool { return !l.agree(s) })
+	return first.Of(setsOf(len(l.Memories)), func(s set) bool { return !l.agree(s) })
 }
 
 func (l looked) drop() set {
 	all := allOf(len(l.Memories))
-	s, _ := first(setsOf(len(l.Memories)), func(s set) bool { return l.agree(all &^ s) })
+	s, _ := first.Of(setsOf(len(l.Memories)), func(s set) bool { return l.agree(all &^ s) })
 	return s
 }

@@ -20,15 +20,7 @@ func isIslet(i api.LensIslet) bool {
 }
 
 func areWells(wells []int, most int) bool {
-	if len(wells) > api.LensWells {
-		return false
-	}
-	for _, w := range wells {
-		if !bounds.In(w, 0, most) {
-			return false
-		}
-	}
-	return true
+	return len(wells) <= api.LensWells && bounds.AllIn(wells, 0, most)
 }
 
 func areMonths(months []api.LensMonth) bool {

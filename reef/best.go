@@ -3,6 +3,7 @@ package reef
 import (
 	"motu/api"
 	"motu/bounds"
+	"motu/first"
 )
 
 // looked is a reef that is looked at, with the fewest fish that were found to be left after plans and their beginnings.
@@ -80,7 +81,7 @@ func (l looked) best() (planned, bool) {
 
 // tooMany returns the least limit of what is taken of a place with which some place can be short. It is one more than the quota; 0 if there is no quota.
 func (p planned) tooMany(place int) int {
-	return firstNumber(api.ReefFish, func(limit int) bool {
+	return first.Number(api.ReefFish, func(limit int) bool {
 		_, is := lookAt(p.limited(place, limit).Reef).short(p.plan)
 		return is
 	})

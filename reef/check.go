@@ -34,36 +34,15 @@ func areFish(n int) bool { return bounds.In(n, 0, api.ReefFish) }
 func isNumber(r api.Reef, place int) bool { return bounds.In(place, 0, len(r.Places)-1) }
 
 func isPlan(r api.Reef, plan []int) bool {
-	if len(plan) != r.Seasons {
-		return false
-	}
-	for _, closed := range plan {
-		if !bounds.In(closed, 0, 1<<len(r.Places)-1) {
-			return false
-		}
-	}
-	return true
+	return len(plan) == r.Seasons && bounds.AllIn(plan, 0, 1<<len(r.Places)-1)
 }
 
 func isTruth(p planned, t api.ReefTruth) bool {
-	if !areIn(t.Starts, p.starts()) || len(t.Grows) != p.Seasons || len(t.Takes) != p.Seasons {
+	if !bounds.InSpans(t.Starts, p.starts()) || len(t.Grows) != p.Seasons || len(t.Takes) != p.Seasons {
 		return false
 	}
 	for season := range p.Seasons {
-		if !areIn(t.Grows[season], p.grows()) || !areIn(t.Takes[season], p.takes(season)) {
-			return false
-		}
-	}
-	return true
-}
-
-// areIn reports whether there is a number for each span, and lies in it.
-func areIn(numbers []int, spans []api.Span) bool {
-	if len(numbers) != len(spans) {
-		return false
-	}
-	for k, n := range numbers {
-		if !bounds.InSpan(n, spans[k]) {
+		if !bounds.InSpans(t.Grows[season], p.grows()) || !bounds.InSpans(t.Takes[season], p.takes(season)) {
 			return false
 		}
 	}

@@ -5,6 +5,7 @@ import (
 	"slices"
 
 	"motu/api"
+	"motu/lists"
 )
 
 // unplanned stands for the closed places of a season for which nothing is planned.
@@ -68,19 +69,19 @@ func (p planned) cost() int {
 
 // starts returns for each place how many fish there can be at first.
 func (p planned) starts() []api.Span {
-	return each(p.Places, func(x api.ReefPlace) api.Span {
+	return lists.Each(p.Places, func(x api.ReefPlace) api.Span {
 		return api.Span{Low: x.Count, High: mostThere(x.Count, p.Miss)}
 	})
 }
 
 // grows returns how the fish of each place can grow.
 func (p planned) grows() []api.Span {
-	return each(p.Places, func(x api.ReefPlace) api.Span { return x.Grow })
+	return lists.Each(p.Places, func(x api.ReefPlace) api.Span { return x.Grow })
 }
 
 // takes returns how many fish people can want to take of each place in a season.
 func (p planned) takes(season int) []api.Span {
-	spans := each(p.Places, func(x api.ReefPlace) api.Span { return x.Open })
+	spans := lists.Each(p.Places, func(x api.ReefPlace) api.Span { return x.Open })
 	for place := range p.closed(season) {
 		spans[place] = p.Places[place].Shut
 	}
@@ -93,13 +94,4 @@ func (p planned) limited(place, most int) planned {
 	open := p.Places[place].Open
 	p.Places[place].Open = api.Span{Low: min(open.Low, most), High: min(open.High, most)}
 	return p
-}
-
-// each returns something of each of a list, such as one end of each of some spans.
-func each[T, U any](list []T, of func(T) U) []U {
-	all := make([]U, len(list))
-	for k, x := range list {
-		all[k] = of(x)
-	}
-	return all
 }

@@ -3,19 +3,21 @@ package reef
 import (
 	"motu/api"
 	"motu/bounds"
+	"motu/first"
+	"motu/lists"
 )
 
 // first returns the fish at first, of one end of all spans.
 func (p planned) first(end func(api.Span) int) shoals {
 	var fish shoals
-	copy(fish[:], each(p.starts(), end))
+	copy(fish[:], lists.Each(p.starts(), end))
 	return fish
 }
 
 // after returns what is left of some fish after a season in which fish grow by one end of all spans, and people take the other.
 func (p planned) after(fish shoals, season int, grow, take func(api.Span) int) shoals {
 	f := followed{Reef: p.Reef, fish: fish}
-	f.pass(each(p.grows(), grow), each(p.takes(season), take))
+	f.pass(lists.Each(p.grows(), grow), lists.Each(p.takes(season), take))
 	return f.fish
 }
 
@@ -54,23 +56,5 @@ func (p planned) counts() [][]api.Span {
 
 // leastCount returns the least number that divers can count where there are some fish.
 func leastCount(fish, miss int) int {
-	return firstNumber(fish, func(count int) bool { return mostThere(count, miss) >= fish })
-}
-
-// firstNumber returns the first number from 0 on that holds, if all numbers after one that holds do, too; most + 1 if none up to most does.
-func firstNumber(most int, holds func(int) bool) int {
-	from, to := 0, most+1
-search:
-	for {
-		middle := (from + to) / 2
-		switch {
-		case from == to:
-			break search
-		case holds(middle):
-			to = middle
-		default:
-			from = middle + 1
-		}
-	}
-	return from
+	return first.Number(fish, func(count int) bool { return mostThere(count, miss) >= fish })
 }

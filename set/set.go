@@ -34,3 +34,12 @@ func (s Set) All() iter.Seq[int] {
 		}
 	}
 }
+
+// Pick returns those of a list whose numbers are in a set.
+func Pick[T any](s Set, list []T) []T {
+	var picked []T
+	for n := range s.All() {
+		picked = append(picked, list[n])
+	}
+	return picked
+}

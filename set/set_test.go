@@ -41,3 +41,21 @@ func TestAllIsLeft(t *testing.T) {
 		t.Error(got)
 	}
 }
+
+func TestPick(t *testing.T) {
+	words := []string{"a", "b", "c", "d"}
+	for _, x := range []struct {
+		numbers []int
+		want    []string
+	}{
+		{nil, nil}, {[]int{0}, []string{"a"}}, {[]int{1, 3}, []string{"b", "d"}}, {[]int{0, 1, 2, 3}, words},
+	} {
+		if picked := set.Pick(set.Of(x.numbers...), words); !slices.Equal(picked, x.want) {
+			t.Error(x, picked)
+		}
+	}
+	set.Pick(set.Of(0), words)[0] = "z"
+	if words[0] != "a" {
+		t.Error(words)
+	}
+}
