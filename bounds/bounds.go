@@ -1,7 +1,11 @@
-// Package bounds tells whether numbers, lists of them, and spans lie where they may, which layers ask of their arguments in the same way.
+// Package bounds tells whether numbers, lists of them, and spans lie where they may, which layers ask of their arguments in the same way; and it makes spans of numbers.
 package bounds
 
-import "motu/api"
+import (
+	"math"
+
+	"motu/api"
+)
 
 // In reports whether a number is one from low to high.
 func In(n, low, high int) bool { return low <= n && n <= high }
@@ -46,6 +50,12 @@ func AreSpans(spans []api.Span, most int) bool {
 	}
 	return true
 }
+
+// None returns the span without numbers with which With begins.
+func None() api.Span { return api.Span{Low: math.MaxInt, High: math.MinInt} }
+
+// With returns the shortest span with a number and all those of another span.
+func With(s api.Span, n int) api.Span { return api.Span{Low: min(s.Low, n), High: max(s.High, n)} }
 
 // Low returns the lower end of a span.
 func Low(s api.Span) int { return s.Low }

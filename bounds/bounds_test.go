@@ -106,3 +106,23 @@ func TestAreSpans(t *testing.T) {
 		}
 	}
 }
+
+func TestWith(t *testing.T) {
+	s := bounds.None()
+	for _, n := range []int{math.MinInt, -1, 0, 1, math.MaxInt} {
+		if bounds.InSpan(n, s) || bounds.With(s, n) != (api.Span{Low: n, High: n}) {
+			t.Error(n, s)
+		}
+	}
+	for _, x := range []struct {
+		n    int
+		want api.Span
+	}{
+		{4, api.Span{Low: 4, High: 4}}, {6, api.Span{Low: 4, High: 6}}, {5, api.Span{Low: 4, High: 6}}, {-2, api.Span{Low: -2, High: 6}}, {6, api.Span{Low: -2, High: 6}},
+	} {
+		s = bounds.With(s, x.n)
+		if s != x.want {
+			t.Error(x, s)
+		}
+	}
+}

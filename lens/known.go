@@ -1,27 +1,25 @@
 package lens
 
 import (
-	"math"
-
 	"motu/api"
+	"motu/bounds"
 )
 
 // known follows both extremes of each drought: every other truth lies between them.
 func known(i api.LensIslet, tanks int) []api.LensKnown {
-	nothing := api.Span{Low: math.MaxInt, High: math.MinInt}
-	bounds := make([]api.LensKnown, len(i.Months))
-	for m := range bounds {
-		bounds[m] = api.LensKnown{Tanks: nothing, Lens: nothing, Lack: nothing}
+	all := make([]api.LensKnown, len(i.Months))
+	for m := range all {
+		all[m] = api.LensKnown{Tanks: bounds.None(), Lens: bounds.None(), Lack: bounds.None()}
 	}
 	for dry := range droughts(i) {
 		for _, t := range [2]api.LensTruth{scarcest(i, dry), richest(i, dry)} {
 			ends, _ := follow(i, tanks, t)
 			for m, end := range ends {
-				bounds[m] = withEnd(bounds[m], end)
+				all[m] = withEnd(all[m], end)
 			}
 		}
 	}
-	return bounds
+	return all
 }
 
 func withEnd(k api.LensKnown, end api.LensSeen) api.LensKnown {
@@ -34,6 +32,5 @@ func withEnd(k api.LensKnown, end api.LensSeen) api.LensKnown {
 
 // widened returns bounds between which a number of an end lies, too.
 func widened[E any](s api.Span, end E, number func(E) int) api.Span {
-	n := number(end)
-	return api.Span{Low: min(s.Low, n), High: max(s.High, n)}
+	return bounds.With(s, number(end))
 }
