@@ -36,10 +36,13 @@ func InSpans(numbers []int, spans []api.Span) bool {
 	return true
 }
 
-// IsSpan reports whether a span has a number, and none below 0 or above most.
-func IsSpan(s api.Span, most int) bool {
-	return 0 <= s.Low && s.Low <= s.High && s.High <= most
+// IsWithin reports whether a span has a number, and none below low or above high.
+func IsWithin(s api.Span, low, high int) bool {
+	return low <= s.Low && s.Low <= s.High && s.High <= high
 }
+
+// IsSpan reports whether a span has a number, and none below 0 or above most.
+func IsSpan(s api.Span, most int) bool { return IsWithin(s, 0, most) }
 
 // AreSpans reports whether all spans of a list have a number, and none below 0 or above most.
 func AreSpans(spans []api.Span, most int) bool {

@@ -43,6 +43,21 @@ func TestSpans(t *testing.T) {
 	}
 }
 
+func TestIsWithin(t *testing.T) {
+	for _, x := range []struct {
+		low, high int
+		want      bool
+	}{
+		{-3, 5, true}, {-3, -3, true}, {5, 5, true}, {0, 0, true}, {-1, 2, true},
+		{-4, 5, false}, {-3, 6, false}, {1, 0, false}, {5, -3, false}, {-5, -4, false}, {6, 7, false},
+		{math.MinInt, 0, false}, {0, math.MaxInt, false}, {math.MaxInt, math.MinInt, false},
+	} {
+		if is := bounds.IsWithin(api.Span{Low: x.low, High: x.high}, -3, 5); is != x.want {
+			t.Error(x, is)
+		}
+	}
+}
+
 func TestNumbers(t *testing.T) {
 	for _, x := range []struct {
 		list   []int

@@ -39,10 +39,7 @@ func areEvents(b api.LandBook) bool {
 
 func areMemories(b api.LandBook) bool {
 	for _, m := range b.Memories {
-		if !isEvent(b, m.From) || !isEvent(b, m.To) || m.From == m.To {
-			return false
-		}
-		if m.Years.Low < -api.LandYears || m.Years.Low > m.Years.High || m.Years.High > api.LandYears {
+		if !isEvent(b, m.From) || !isEvent(b, m.To) || m.From == m.To || !bounds.IsWithin(m.Years, -api.LandYears, api.LandYears) {
 			return false
 		}
 	}

@@ -21,7 +21,7 @@ func isCall(p api.ShipPass, c api.ShipCall) bool {
 	return isDay(p, c.Day) && bounds.In(c.Hour, 0, api.ShipHours-1)
 }
 
-func isGap(gap api.Span) bool { return bounds.IsSpan(gap, api.ShipGap) && gap.Low >= 1 }
+func isGap(gap api.Span) bool { return bounds.IsWithin(gap, 1, api.ShipGap) }
 
 func isStore(s api.ShipStore) bool {
 	return bounds.In(len(s.Stock), 1, api.ShipKinds) && bounds.AllIn(s.Stock, 0, api.ShipGoods) &&
