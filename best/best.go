@@ -1,4 +1,4 @@
-// Package best finds the best one of several choices, which layers do in the same way: of tests, of guards, of lots, of works.
+// Package best finds the best one of several choices, which layers do in the same way: of tests, of guards, of lots, of works, of sales.
 package best
 
 import (
