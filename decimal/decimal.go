@@ -1,4 +1,4 @@
-// Package decimal reads the numbers of logs and books, which layers write in the same way: decimal, and without leading zeros, but for those of a CHECK.
+// Package decimal reads the numbers of logs, books and journals, which layers write in the same way: decimal, and without leading zeros, but for those of a CHECK.
 package decimal
 
 import (
@@ -29,6 +29,21 @@ func Integer(word string, digits int) (int, bool) {
 		return n, ok
 	}
 	return -n, n > 0
+}
+
+// Integers reads the numbers of such words into as many variables; false if there are more of the ones than of the others, or a word is none.
+func Integers(words []string, digits int, numbers ...*int) bool {
+	if len(words) != len(numbers) {
+		return false
+	}
+	for k, word := range words {
+		n, ok := Integer(word, digits)
+		if !ok {
+			return false
+		}
+		*numbers[k] = n
+	}
+	return true
 }
 
 // Padded returns the word of a number from 0 on, with zeros in front of it where it has less than some digits.

@@ -71,6 +71,31 @@ func TestAllNumbers(t *testing.T) {
 	}
 }
 
+func TestIntegers(t *testing.T) {
+	for _, x := range []struct {
+		words []string
+		ok    bool
+	}{
+		{[]string{"12", "-3"}, true},
+		{[]string{"0", "9999"}, true},
+		{nil, false},
+		{[]string{"12"}, false},
+		{[]string{"12", "-3", "4"}, false},
+		{[]string{"12", ""}, false},
+		{[]string{"-0", "3"}, false},
+		{[]string{"12", "10000"}, false},
+	} {
+		var a, b int
+		ok := decimal.Integers(x.words, 4, &a, &b)
+		if ok != x.ok || ok && (strconv.Itoa(a) != x.words[0] || strconv.Itoa(b) != x.words[1]) {
+			t.Error(x, a, b, ok)
+		}
+	}
+	if !decimal.Integers(nil, 4) || decimal.Integers([]string{""}, 4) {
+		t.Error("no numbers")
+	}
+}
+
 func TestPadded(t *testing.T) {
 	for _, x := range []struct {
 		n, digits int

@@ -57,13 +57,7 @@ type writer struct {
 
 func (w *writer) line(words ...string) { w.text += lines.Of(words...) }
 
-func (w *writer) numbers(word string, numbers ...int) {
-	words := []string{word}
-	for _, n := range numbers {
-		words = append(words, strconv.Itoa(n))
-	}
-	w.line(words...)
-}
+func (w *writer) numbers(word string, numbers ...int) { w.text += lines.Numbered(word, numbers...) }
 
 // noBook is what the reader of a text that is no book panics with.
 type noBook struct{}
@@ -158,26 +152,15 @@ func readRelative(word string) int {
 	if word == noPerson {
 		return nobody
 	}
-	n := readNumber(word)
-	if n == nobody {
-		panic(noBook{})
-	}
-	return n
-}
-
-func readNumber(word string) int {
 	n, ok := decimal.Integer(word, mostDigits)
-	if !ok {
+	if !ok || n == nobody {
 		panic(noBook{})
 	}
 	return n
 }
 
 func readNumbers(words []string, numbers ...*int) {
-	if len(words) != len(numbers) {
+	if !decimal.Integers(words, mostDigits, numbers...) {
 		panic(noBook{})
-	}
-	for k, word := range words {
-		*numbers[k] = readNumber(word)
 	}
 }
